@@ -24,6 +24,9 @@ func TestNet(t *testing.T) {
 		if rule, at := net.Check(n); rule != 0 {
 			t.Fatalf("%v breaks rule %d at %d", n, rule, at)
 		}
+		if surplus(n) != 0 {
+			t.Fatalf("%v: forks and joins differ", n)
+		}
 		for _, x := range n.Nodes {
 			kinds[x.Kind]++
 		}
@@ -45,6 +48,38 @@ func TestNet(t *testing.T) {
 	if loops < 100 || loops > 2900 {
 		t.Errorf("%d processes with a loop", loops)
 	}
+}
+
+// Processes with crossed flows are right, and many are joined otherwise than they fork.
+func TestCrossed(t *testing.T) {
+	r, again := rand.New(rand.NewSource(2)), rand.New(rand.NewSource(2))
+	uneven := 0
+	for range 3000 {
+		n := sample.Crossed(r.Intn)
+		if !reflect.DeepEqual(sample.Crossed(again.Intn), n) {
+			t.Fatal("another process")
+		}
+		if rule, at := net.Check(n); rule != 0 {
+			t.Fatalf("%v breaks rule %d at %d", n, rule, at)
+		}
+		if surplus(n) != 0 {
+			uneven++
+		}
+	}
+	if uneven < 300 || uneven > 2700 {
+		t.Errorf("%d processes whose forks and joins differ", uneven)
+	}
+}
+
+// surplus is how many more ways Ands split to than they join: 0 of blocks that lie in one another.
+func surplus(n api.Net) int {
+	sum := 0
+	for i, x := range n.Nodes {
+		if x.Kind == api.And {
+			sum += len(net.Outs(n, i)) - len(net.Ins(n, i))
+		}
+	}
+	return sum
 }
 
 // loop tells whether a node leads to itself.
