@@ -9,6 +9,7 @@ import (
 
 	"treenail/api"
 	"treenail/block"
+	"treenail/sample"
 )
 
 // process has the nodes 0 Start, 1 Xor (two outs), 2 Task, 3 Assign, 4 Xor (joins), 5 And (three outs), 6 Event (7, 8),
@@ -94,14 +95,14 @@ func TestKinds(t *testing.T) {
 		}},
 	} {
 		for _, s := range c.texts {
-			b := read(s)
+			b := sample.Block(s)
 			wantCheck(t, s, n, b, c.e)
 			if !strings.Contains(s, ":-1") && !strings.Contains(s, "/-1") {
 				wantText(t, b, s, api.OK)
 			}
 		}
 	}
-	wantCheck(t, "an Event's Gate beside its Catches", n, read("(web g6 7 8 [-1 0 0] [1 -1 0])"), api.OK)
+	wantCheck(t, "an Event's Gate beside its Catches", n, sample.Block("(web g6 7 8 [-1 0 0] [1 -1 0])"), api.OK)
 	wantCheck(t, "no kind", n, block.Block{}, api.ErrForm)
 	for _, kind := range []int{-1, 0, 11, math.MinInt, math.MaxInt} {
 		wantCheck(t, "no kind", n, block.Block{Kind: kind}, api.ErrForm)
@@ -132,9 +133,9 @@ func TestNotTold(t *testing.T) {
 		}, []int{1, 2, 3, 4, 5, 6, 7, 8, 9, 10}},
 	}
 	for _, s := range []string{"-", "2", "(seq 2 3)", "(par:5 - - -)", "(alt:1 - -)", "(pick:6 - -)", "(loop:1/1 - -)", "g4", "(web - [-1 0 0] [0 -1 0])", "*"} {
-		wantCheck(t, s, n, read(s), api.OK)
+		wantCheck(t, s, n, sample.Block(s), api.OK)
 		for _, c := range changes {
-			b, want := read(s), api.ErrForm
+			b, want := sample.Block(s), api.ErrForm
 			if slices.Contains(c.right, b.Kind) {
 				want = api.OK
 			}
@@ -197,9 +198,9 @@ func TestLimits(t *testing.T) {
 	wantCheck(t, "too many, and a wrong one", n, wrong, api.ErrLong)
 	wantText(t, wrong, "", api.ErrLong)
 	wantCheck(t, "too many kids of a Leaf", n, block.Block{Kind: block.Leaf, Node: 2, Kids: row(97).Kids}, api.ErrLong)
-	wantCheck(t, "a wrong one, and one twice", n, read("(seq 2 2 1)"), api.ErrForm)
+	wantCheck(t, "a wrong one, and one twice", n, sample.Block("(seq 2 2 1)"), api.ErrForm)
 	for _, m := range []api.Net{{}, {Nodes: n.Nodes}, {Nodes: n.Nodes, Flows: n.Flows[1:]}} {
-		for _, b := range []block.Block{{}, {Kind: block.Empty}, {Kind: block.Rules}, row(97), read("(seq 2 2)")} {
+		for _, b := range []block.Block{{}, {Kind: block.Empty}, {Kind: block.Rules}, row(97), sample.Block("(seq 2 2)")} {
 			wantCheck(t, "a wrong process's block", m, b, api.ErrArg)
 		}
 	}
@@ -213,7 +214,7 @@ func TestLeaves(t *testing.T) {
 		"(seq (par:5 (pick:6 3 -) 12 13) (alt:1 - 2))": {2, 3, 7, 8, 12, 13}, "(web g6 8 g1 2 [-1 0 0] [1 -1 0])": {2, 8},
 	} {
 		for range 2 {
-			l, e := block.Leaves(n, read(s))
+			l, e := block.Leaves(n, sample.Block(s))
 			if e != api.OK || len(l)+len(want) > 0 && !slices.Equal(l, want) {
 				t.Errorf("Leaves of %s: %v, %v; want %v", s, l, e, want)
 			}
@@ -250,7 +251,9 @@ func TestText(t *testing.T) {
 
 // 10.2: Same asks for every field, in whatever order they stand; a list without an element may be nil or empty.
 func TestSame(t *testing.T) {
-	some := func() block.Block { return read("(web g1 (seq 2 (loop:14/1 - 3)) * [-1 0 0] [0 1 1] [2 -1 3])") }
+	some := func() block.Block {
+		return sample.Block("(web g1 (seq 2 (loop:14/1 - 3)) * [-1 0 0] [0 1 1] [2 -1 3])")
+	}
 	a := some()
 	if !block.Same(a, some()) || !block.Same(block.Block{}, block.Block{}) {
 		t.Error("they are not the same")
@@ -283,7 +286,7 @@ func TestSame(t *testing.T) {
 // 10.2: how many blocks there are.
 func TestSize(t *testing.T) {
 	for s, want := range map[string]int{"-": 1, "(seq 1 (alt:2 3 -))": 5, "(web g1 (par:5 - - -) [-1 0 0] [0 1 1] [1 -1 2])": 6} {
-		if n := block.Size(read(s)); n != want {
+		if n := block.Size(sample.Block(s)); n != want {
 			t.Errorf("Size of %s: %d; want %d", s, n, want)
 		}
 	}
@@ -322,7 +325,7 @@ func TestRound(t *testing.T) {
 // R3: what is handed in is left as it is, spare room too.
 func TestUntouched(t *testing.T) {
 	some := func() block.Block {
-		b := read("(web g1 (pick:6 - (seq 2 3)) g4 8 [-1 0 0] [0 1 1] [2 -1 3])")
+		b := sample.Block("(web g1 (pick:6 - (seq 2 3)) g4 8 [-1 0 0] [0 1 1] [2 -1 3])")
 		b.Kids, b.Links = b.Kids[:3], b.Links[:3:3]
 		return b
 	}

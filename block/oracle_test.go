@@ -4,67 +4,12 @@ import (
 	"math/rand"
 	"reflect"
 	"slices"
-	"strconv"
-	"strings"
 	"testing"
 
 	"treenail/api"
 	"treenail/block"
 	"treenail/sample"
 )
-
-// read is the block of a text.
-func read(s string) block.Block {
-	for _, c := range []string{"(", ")", "[", "]"} {
-		s = strings.ReplaceAll(s, c, " "+c+" ")
-	}
-	b, rest := readWords(strings.Fields(s))
-	if len(rest) > 0 {
-		panic("words are left of " + s)
-	}
-	return b
-}
-
-var kinds = []string{"", "-", "", "seq", "par", "alt", "pick", "loop", "g", "web", "*"}
-
-// readWords is the block with which the words begin, and what is behind it.
-func readWords(words []string) (block.Block, []string) {
-	w, words := words[0], words[1:]
-	if w != "(" {
-		if k := slices.Index(kinds, w); k > 0 {
-			return block.Block{Kind: k}, words
-		}
-		if w[0] == 'g' {
-			return block.Block{Kind: block.Gate, Node: whole(w[1:])}, words
-		}
-		return block.Block{Kind: block.Leaf, Node: whole(w)}, words
-	}
-	head, arg, _ := strings.Cut(words[0], "/")
-	name, node, _ := strings.Cut(head, ":")
-	b := block.Block{Kind: slices.Index(kinds, name), Node: whole(node), Arg: whole(arg)}
-	for words = words[1:]; words[0] != ")"; {
-		if words[0] == "[" {
-			b.Links = append(b.Links, block.Link{From: whole(words[1]), To: whole(words[2]), Flow: whole(words[3])})
-			words = words[5:]
-			continue
-		}
-		var k block.Block
-		k, words = readWords(words)
-		b.Kids = append(b.Kids, k)
-	}
-	return b, words[1:]
-}
-
-func whole(s string) int {
-	if s == "" {
-		return 0
-	}
-	n, err := strconv.Atoi(s)
-	if err != nil {
-		panic(err)
-	}
-	return n
-}
 
 // item is a block, what it is a kid of, and how deep it lies.
 type item struct {
@@ -385,7 +330,7 @@ func wantBlock(t *testing.T, n api.Net, b block.Block, times map[api.Errno]int) 
 		return
 	}
 	s, got := block.Text(b)
-	if back := read(s); got != api.OK || !reflect.DeepEqual(trim(back), trim(b)) {
+	if back := sample.Block(s); got != api.OK || !reflect.DeepEqual(trim(back), trim(b)) {
 		t.Fatalf("Text of %v: %q, %v", b, s, got)
 	}
 }

@@ -6,8 +6,12 @@ import (
 	"testing"
 
 	"treenail/api"
+	"treenail/block"
+	"treenail/chart"
+	"treenail/fold"
 	"treenail/net"
 	"treenail/sample"
+	"treenail/token"
 )
 
 // Processes are right, of all kinds and sizes, and the same if the same is picked.
@@ -68,6 +72,93 @@ func TestCrossed(t *testing.T) {
 	}
 	if uneven < 300 || uneven > 2700 {
 		t.Errorf("%d processes whose forks and joins differ", uneven)
+	}
+}
+
+// A process that is written by letters is the one that its document tells.
+func TestOf(t *testing.T) {
+	want, _, _, e := chart.Read(`<process><start/><xor/><task var="0"/><event/><catch message="0"/><catch/><xor/><assign var="0" value="0"/><xor/><and/><and/><end/>` +
+		`<flow from="0" to="1"/><flow from="1" to="3" if="(eq $0 1)"/><flow from="1" to="2" else="yes"/><flow from="3" to="4"/><flow from="3" to="5"/><flow from="4" to="6"/><flow from="5" to="6"/>` +
+		`<flow from="2" to="8"/><flow from="6" to="7"/><flow from="7" to="8"/><flow from="8" to="9"/><flow from="9" to="10"/><flow from="9" to="10"/><flow from="10" to="11"/></process>`)
+	if e != api.OK {
+		t.Fatal(e)
+	}
+	got := sample.Of("sxtvmcxaxnne", "0-1 1-3 1-2 3-4 3-5 4-6 5-6 2-8 6-7 7-8 8-9 9-10 9-10 10-11")
+	a, _ := chart.Write(got)
+	if b, _ := chart.Write(want); a != b {
+		t.Errorf("%s; want %s", a, b)
+	}
+}
+
+// Free choices go where the variable 0 tells.
+func TestFree(t *testing.T) {
+	r := rand.New(rand.NewSource(3))
+	choices := 0
+	for range 500 {
+		n := sample.Net(r.Intn)
+		was := net.Copy(n)
+		free := sample.Free(n)
+		if rule, at := net.Check(free); rule != 0 || !reflect.DeepEqual(n, was) {
+			t.Fatalf("%v breaks rule %d at %d, or %v was changed", free, rule, at, n)
+		}
+		for f, x := range free.Flows {
+			if free.Nodes[x.From].Kind != api.Xor || len(net.Outs(free, x.From)) < 2 {
+				continue
+			}
+			choices++
+			var s token.State
+			s.Tokens[net.Ins(free, x.From)[0]], s.Vars[0] = 1, f
+			if m := token.Moves(free, s); m[0] != (token.Move{Node: x.From, Arg: f}) {
+				t.Fatalf("%v at %d: %v", free, f, m)
+			}
+		}
+	}
+	if choices < 1000 {
+		t.Errorf("%d choices", choices)
+	}
+}
+
+// A block's text is read as that block.
+func TestBlock(t *testing.T) {
+	for _, s := range []string{"-", "*", "12", "g7", "(seq 1 (alt:2 3 -))", "(par:1 - (pick:4 5 6) (loop:7/1 - 8))", "(web g1 (seq 2 3) [-1 0 0] [0 1 1] [1 -1 2])", "(web)"} {
+		if got, e := block.Text(sample.Block(s)); got != s || e != api.OK {
+			t.Errorf("%s: %s, %v", s, got, e)
+		}
+	}
+}
+
+// Webs can be folded; crossed ones are of all sorts.
+func TestWeb(t *testing.T) {
+	r, again := rand.New(rand.NewSource(4)), rand.New(rand.NewSource(4))
+	twice, empties, other := 0, 0, 0
+	for range 2000 {
+		n := sample.Crossed(r.Intn)
+		sample.Crossed(again.Intn)
+		for _, make := range []func(api.Net, func(int) int) block.Block{sample.Web, sample.CrossedWeb} {
+			web := make(n, r.Intn)
+			if !block.Same(make(n, again.Intn), web) {
+				t.Fatal("another web")
+			}
+			if _, _, e := fold.Step(n, web); e != api.OK {
+				t.Fatalf("%v of %v: %v", web, n, e)
+			}
+			if block.Check(n, web) == api.ErrSame {
+				twice++
+			}
+			for i, k := range web.Kids {
+				if k.Kind == block.Empty {
+					empties++
+				}
+				for _, l := range web.Links {
+					if l.From == i && k.Kind == block.Leaf && n.Flows[l.Flow].From != k.Node {
+						other++
+					}
+				}
+			}
+		}
+	}
+	if min(twice, empties, other) < 100 {
+		t.Errorf("twice: %d, Empties: %d, other flows: %d", twice, empties, other)
 	}
 }
 
