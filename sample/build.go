@@ -53,8 +53,13 @@ func (b *builder) block() (int, int) {
 			return b.loop()
 		}
 	}
-	single := [...]int{api.Task, api.Assign, api.Catch}
-	i := b.node(single[b.pick(len(single))])
+	return b.single()
+}
+
+// single is a node alone.
+func (b *builder) single() (int, int) {
+	kinds := [...]int{api.Task, api.Assign, api.Catch}
+	i := b.node(kinds[b.pick(len(kinds))])
 	return i, i
 }
 

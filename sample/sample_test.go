@@ -3,6 +3,7 @@ package sample_test
 import (
 	"math/rand"
 	"reflect"
+	"slices"
 	"testing"
 
 	"treenail/api"
@@ -11,6 +12,7 @@ import (
 	"treenail/fold"
 	"treenail/net"
 	"treenail/sample"
+	"treenail/sound"
 	"treenail/token"
 )
 
@@ -72,6 +74,42 @@ func TestCrossed(t *testing.T) {
 	}
 	if uneven < 300 || uneven > 2700 {
 		t.Errorf("%d processes whose forks and joins differ", uneven)
+	}
+}
+
+// Processes that are knit are right, without Events and rounds; some can be folded whole, some others are sound.
+func TestKnit(t *testing.T) {
+	r, again := rand.New(rand.NewSource(5)), rand.New(rand.NewSource(5))
+	sizes := map[int]int{}
+	whole, linked, ruled := 0, 0, 0
+	for range 3000 {
+		n := sample.Knit(r.Intn)
+		if !reflect.DeepEqual(sample.Knit(again.Intn), n) {
+			t.Fatal("another process")
+		}
+		if rule, at := net.Check(n); rule != 0 {
+			t.Fatalf("%v breaks rule %d at %d", n, rule, at)
+		}
+		if slices.ContainsFunc(n.Nodes, func(x api.Node) bool { return x.Kind == api.Event }) || loop(n) {
+			t.Fatalf("%v has an Event, or goes round", n)
+		}
+		sizes[len(n.Nodes)]++
+		switch b, _ := fold.Fold(n); {
+		case b.Kind != block.Web:
+			whole++
+		case sound.Sound(n, b):
+			linked++
+		default:
+			ruled++
+		}
+	}
+	for size := 4; size <= api.MaxNodes; size++ {
+		if sizes[size] == 0 {
+			t.Errorf("no process of %d nodes", size)
+		}
+	}
+	if min(whole, linked, ruled) < 50 {
+		t.Errorf("whole: %d, linked: %d, ruled: %d", whole, linked, ruled)
 	}
 }
 
