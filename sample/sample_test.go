@@ -8,6 +8,7 @@ import (
 
 	"treenail/api"
 	"treenail/block"
+	"treenail/bpel"
 	"treenail/chart"
 	"treenail/fold"
 	"treenail/net"
@@ -232,4 +233,50 @@ func loop(n api.Net) bool {
 		}
 	}
 	return false
+}
+
+// Programs are right, of all kinds, few and many, flat and deep, and the same if the same is picked.
+func TestProgram(t *testing.T) {
+	r, again := rand.New(rand.NewSource(7)), rand.New(rand.NewSource(7))
+	var kinds [bpel.Rules + 1]int
+	var gates [5]int
+	sizes, levels := map[int]int{}, map[int]int{}
+	for range 6000 {
+		a := sample.Program(r.Intn)
+		if !reflect.DeepEqual(sample.Program(again.Intn), a) {
+			t.Fatal("another program")
+		}
+		if e := bpel.Check(a); e != api.OK {
+			t.Fatalf("%v: %v", a, e)
+		}
+		l := bpel.Items(a)
+		deep, most := make([]int, len(l)), 0
+		for i, x := range l {
+			kinds[x.Act.Kind]++
+			if x.Act.Kind == bpel.Gate {
+				gates[x.Act.A]++
+			}
+			if x.Parent >= 0 {
+				deep[i] = deep[x.Parent] + 1
+			}
+			most = max(most, deep[i])
+		}
+		sizes[len(l)/10]++
+		levels[most/3]++
+	}
+	for k, times := range kinds {
+		if k > 0 && times < 300 {
+			t.Errorf("kind %d: %d times", k, times)
+		}
+	}
+	for k, times := range gates {
+		if k > 0 && times < 300 {
+			t.Errorf("gate %d: %d times", k, times)
+		}
+	}
+	for i := range 8 {
+		if sizes[i] < 5 || levels[i] < 5 {
+			t.Errorf("%d programs of %d activities or so, %d of %d levels", sizes[i], 10*i, levels[i], 3*i)
+		}
+	}
 }
