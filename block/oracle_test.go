@@ -124,150 +124,44 @@ func check(n api.Net, b block.Block) (api.Errno, []int) {
 	return api.OK, leaves
 }
 
-// maker makes blocks of nodes that are left.
-type maker struct {
-	*rand.Rand
-	n    api.Net
-	left []int
-}
-
-func newMaker(r *rand.Rand) *maker {
-	n := sample.Net(r.Intn)
-	return &maker{r, n, r.Perm(len(n.Nodes))}
-}
-
-func (m *maker) outs(i int) []int {
-	var l []int
-	for _, f := range m.n.Flows {
-		if f.From == i {
-			l = append(l, f.To)
-		}
-	}
-	return l
-}
-
-// use lets a node go; false, if it is gone.
-func (m *maker) use(i int) bool {
-	at := slices.Index(m.left, i)
-	if at < 0 {
-		return false
-	}
-	m.left = slices.Delete(slices.Clone(m.left), at, at+1)
-	return true
-}
-
-// kid is a block that may stand in any other one (but, if it is a Seq, in a Seq).
-func (m *maker) kid(seq bool) block.Block {
-	if len(m.left) == 0 || m.Intn(8) == 0 {
-		return block.Block{Kind: block.Empty}
-	}
-	if seq && m.Intn(4) == 0 {
-		b := block.Block{Kind: block.Seq}
-		for range 2 + m.Intn(3) {
-			b.Kids = append(b.Kids, m.kid(false))
-		}
-		return b
-	}
-	i := m.left[0]
-	m.use(i)
-	outs := m.outs(i)
-	b := block.Block{Node: i}
-	switch kind := m.n.Nodes[i].Kind; {
-	case kind == api.Task || kind == api.Assign || kind == api.Catch:
-		b.Kind = block.Leaf
-		return b
-	case len(outs) < 2:
-		return m.kid(seq)
-	case kind == api.And:
-		b.Kind = block.Par
-	case kind == api.Xor && len(outs) == 2 && m.Intn(2) == 0:
-		b.Kind, b.Arg = block.Loop, m.Intn(2)
-	case kind == api.Xor:
-		b.Kind = block.Alt
-	case kind == api.Event:
-		for _, c := range outs {
-			if !m.use(c) {
-				return m.kid(seq)
-			}
-		}
-		b.Kind = block.Pick
-	}
-	for range outs {
-		b.Kids = append(b.Kids, m.kid(true))
-	}
-	return b
-}
-
-// block is any right block.
-func (m *maker) block() block.Block {
-	switch m.Intn(6) {
-	case 0:
-		return block.Block{Kind: block.Rules}
-	case 1, 2:
-		return m.web()
-	}
-	return m.kid(true)
-}
-
-func (m *maker) web() block.Block {
-	b := block.Block{Kind: block.Web}
-	for range 1 + m.Intn(6) {
-		k := m.kid(true)
-		if len(m.left) > 0 && slices.Contains([]int{api.Xor, api.And, api.Event}, m.n.Nodes[m.left[0]].Kind) {
-			k = block.Block{Kind: block.Gate, Node: m.left[0]}
-			m.use(m.left[0])
-		}
-		b.Kids = append(b.Kids, k)
-	}
-	flow := func() int { return m.Intn(len(m.n.Flows)) }
-	b.Links = []block.Link{{From: -1, To: m.Intn(len(b.Kids)), Flow: flow()}, {From: m.Intn(len(b.Kids)), To: -1, Flow: flow()}}
-	for range m.Intn(6) {
-		if p := m.Perm(len(b.Kids)); len(p) > 1 {
-			b.Links = append(b.Links, block.Link{From: p[0], To: p[1], Flow: flow()})
-		}
-	}
-	m.Shuffle(len(b.Links), func(i, j int) { b.Links[i], b.Links[j] = b.Links[j], b.Links[i] })
-	return b
-}
-
 // change changes something of a block, or of one in it.
-func (m *maker) change(b *block.Block) {
+func change(n api.Net, b *block.Block, r *rand.Rand) {
 	l := items(b)
-	x, y := l[m.Intn(len(l))].b, copied(*l[m.Intn(len(l))].b)
-	near := func(n int) int { return m.Intn(n+3) - 1 }
-	switch m.Intn(12) {
+	x, y := l[r.Intn(len(l))].b, copied(*l[r.Intn(len(l))].b)
+	near := func(most int) int { return r.Intn(most+3) - 1 }
+	switch r.Intn(12) {
 	case 0:
 		x.Kind = near(10)
 	case 1:
-		x.Node = near(len(m.n.Nodes))
+		x.Node = near(len(n.Nodes))
 	case 2:
 		x.Arg = near(1)
 	case 3:
-		x.Kids = x.Kids[:m.Intn(len(x.Kids)+1)]
+		x.Kids = x.Kids[:r.Intn(len(x.Kids)+1)]
 	case 4:
 		x.Kids = append(x.Kids, copied(y))
 	case 5:
 		*x = copied(y)
 	case 6:
 		if len(x.Kids) > 0 {
-			x.Kids[m.Intn(len(x.Kids))] = copied(y)
+			x.Kids[r.Intn(len(x.Kids))] = copied(y)
 		}
 	case 7:
-		x.Links = append(x.Links, block.Link{From: near(len(x.Kids)), To: near(len(x.Kids)), Flow: near(len(m.n.Flows))})
+		x.Links = append(x.Links, block.Link{From: near(len(x.Kids)), To: near(len(x.Kids)), Flow: near(len(n.Flows))})
 	case 8:
 		if len(b.Links) > 0 {
-			k := &b.Links[m.Intn(len(b.Links))]
-			*[]*int{&k.From, &k.To, &k.Flow}[m.Intn(3)] = near(len(b.Kids))
+			k := &b.Links[r.Intn(len(b.Links))]
+			*[]*int{&k.From, &k.To, &k.Flow}[r.Intn(3)] = near(len(b.Kids))
 		}
 	case 9:
 		if len(b.Links) > 0 {
-			at := m.Intn(len(b.Links))
+			at := r.Intn(len(b.Links))
 			b.Links = slices.Delete(b.Links, at, at+1)
 		}
 	case 10:
-		x.Kind, x.Node = block.Gate, near(len(m.n.Nodes))
+		x.Kind, x.Node = block.Gate, near(len(n.Nodes))
 	case 11:
-		for range 40 * m.Intn(2) {
+		for range 40 * r.Intn(2) {
 			x.Kids = append(x.Kids, copied(y))
 		}
 	}
@@ -286,19 +180,19 @@ func TestAnyBlocks(t *testing.T) {
 	r := rand.New(rand.NewSource(10))
 	times := map[api.Errno]int{}
 	for range 6000 {
-		m := newMaker(r)
-		b := m.block()
-		if e, _ := check(m.n, b); e != api.OK && e != api.ErrLong {
+		n := sample.Net(r.Intn)
+		b := sample.Piece(n, r.Intn)
+		if e, _ := check(n, b); e != api.OK && e != api.ErrLong {
 			t.Fatalf("%v is not right: %v", b, e)
 		}
 		same := copied(b)
 		for range 4 {
-			wantBlock(t, m.n, b, times)
+			wantBlock(t, n, b, times)
 			if !block.Same(b, same) {
 				t.Fatalf("%v is not %v", b, same)
 			}
-			m.change(&b)
-			wantTexts(t, m.n, same, b)
+			change(n, &b, r)
+			wantTexts(t, n, same, b)
 			same = copied(b)
 			if block.Size(b) > 500 {
 				break

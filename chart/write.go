@@ -1,39 +1,36 @@
 package chart
 
 import (
-	"strconv"
-
 	"treenail/api"
-	"treenail/mark"
+	"treenail/attr"
 	"treenail/tree"
 )
 
 // nodeElem is the element of a node that is right.
 func nodeElem(x api.Node) tree.Elem {
-	e := tree.Elem{Name: kinds[x.Kind]}
+	var w attr.Writer
 	switch x.Kind {
 	case api.Task:
-		e.Attrs = []mark.Attr{number("var", x.A)}
+		w.Number("var", x.A)
 	case api.Assign:
-		e.Attrs = []mark.Attr{number("var", x.A), {Name: "value", Value: termText(x.Term)}}
+		w.Number("var", x.A)
+		w.Term("value", x.Term)
 	case api.Catch:
-		if x.A != api.Msgs {
-			e.Attrs = []mark.Attr{number("message", x.A)}
-		}
+		w.Message(x.A)
 	}
-	return e
+	return tree.Elem{Name: kinds[x.Kind], Attrs: w.List()}
 }
 
 // flowElem is the element of a flow that is right.
 func flowElem(f api.Flow) tree.Elem {
-	e := tree.Elem{Name: flow, Attrs: []mark.Attr{number("from", f.From), number("to", f.To)}}
+	var w attr.Writer
+	w.Number("from", f.From)
+	w.Number("to", f.To)
 	switch {
 	case f.Else:
-		e.Attrs = append(e.Attrs, mark.Attr{Name: "else", Value: "yes"})
+		w.Text("else", "yes")
 	case f.Cond.Op != 0:
-		e.Attrs = append(e.Attrs, mark.Attr{Name: "if", Value: termText(f.Cond)})
+		w.Term("if", f.Cond)
 	}
-	return e
+	return tree.Elem{Name: flow, Attrs: w.List()}
 }
-
-func number(name string, n int) mark.Attr { return mark.Attr{Name: name, Value: strconv.Itoa(n)} }

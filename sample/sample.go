@@ -1,4 +1,4 @@
-// Package sample makes processes, webs and programs for the tests of the layers. Whoever calls it picks: pick(n) is a number from 0 to n - 1.
+// Package sample makes processes, blocks, webs and programs for the tests of the layers. Whoever calls it picks: pick(n) is a number from 0 to n - 1.
 package sample
 
 import "treenail/api"

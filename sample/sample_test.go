@@ -280,3 +280,41 @@ func TestProgram(t *testing.T) {
 		}
 	}
 }
+
+// Pieces are right blocks, of all kinds, and the same if the same is picked.
+func TestPiece(t *testing.T) {
+	r, again := rand.New(rand.NewSource(8)), rand.New(rand.NewSource(8))
+	var kinds [block.Rules + 1]int
+	long := 0
+	for range 3000 {
+		n := sample.Net(r.Intn)
+		b := sample.Piece(n, r.Intn)
+		if !block.Same(sample.Piece(sample.Net(again.Intn), again.Intn), b) {
+			t.Fatal("another block")
+		}
+		switch e := block.Check(n, b); e {
+		case api.ErrLong:
+			long++
+		case api.OK:
+			count(b, &kinds)
+		default:
+			t.Fatalf("%v of %v: %v", b, n, e)
+		}
+	}
+	for kind, times := range kinds {
+		if kind > 0 && times < 100 {
+			t.Errorf("kind %d: %d times", kind, times)
+		}
+	}
+	if long > 100 {
+		t.Errorf("%d are too large", long)
+	}
+}
+
+// count counts the kinds of a block, and of all in it.
+func count(b block.Block, kinds *[block.Rules + 1]int) {
+	kinds[b.Kind]++
+	for _, k := range b.Kids {
+		count(k, kinds)
+	}
+}

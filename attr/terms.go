@@ -1,4 +1,4 @@
-package chart
+package attr
 
 import (
 	"slices"
@@ -8,7 +8,7 @@ import (
 	"treenail/term"
 )
 
-// A term may be right and its text longer than MaxText. Layer 3 neither tells nor reads that text, but an element has it:
+// A term may be right and its text longer than MaxText. Layer 3 neither tells nor reads that text, but an attribute has it:
 // so it is put together of its kids' texts here, and taken apart into them.
 
 // termText is the text of a term that is right.
