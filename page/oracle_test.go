@@ -307,7 +307,7 @@ func alterAttrs(x *tree.Elem, r *rand.Rand) {
 func TestAnyElems(t *testing.T) {
 	r := rand.New(rand.NewSource(18))
 	times, read := map[api.Errno]int{}, 0
-	for range 6000 {
+	for range 3000 {
 		e, _ := page.Elem(sample.Program(r.Intn))
 		for range 6 {
 			was := copied(e)
