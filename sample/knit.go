@@ -32,7 +32,7 @@ func (b *builder) knit(ends []int) []int {
 	end, rest := ends[at], slices.Delete(slices.Clone(ends), at, at+1)
 	switch k := b.pick(4); {
 	case k == 0:
-		x := b.gate()
+		x := b.node(b.gateKind())
 		b.link(end, x)
 		return append(rest, slices.Repeat([]int{x}, 2+b.pick(4)/3)...)
 	case k == 1 || len(rest) == 0:
@@ -44,16 +44,10 @@ func (b *builder) knit(ends []int) []int {
 	return append(rest[with:], b.joint(append(rest[:with:with], end)))
 }
 
-// joint is a gate to which all of these lead.
-func (b *builder) joint(ends []int) int {
-	x := b.gate()
-	for _, i := range ends {
-		b.link(i, x)
-	}
-	return x
-}
+// joint is a gate of any kind to which all of these lead.
+func (b *builder) joint(ends []int) int { return b.meet(b.gateKind(), ends) }
 
-func (b *builder) gate() int {
+func (b *builder) gateKind() int {
 	kinds := [...]int{api.Xor, api.And}
-	return b.node(kinds[b.pick(len(kinds))])
+	return kinds[b.pick(len(kinds))]
 }

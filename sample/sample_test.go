@@ -78,6 +78,56 @@ func TestCrossed(t *testing.T) {
 	}
 }
 
+// Processes that are woven are right, of all sizes, and sound; most can't be folded whole.
+func TestWoven(t *testing.T) {
+	r, again := rand.New(rand.NewSource(6)), rand.New(rand.NewSource(6))
+	sizes, kinds := map[int]int{}, map[int]int{}
+	linked, mixed := 0, 0
+	for range 2000 {
+		n := sample.Woven(r.Intn)
+		if !reflect.DeepEqual(sample.Woven(again.Intn), n) {
+			t.Fatal("another process")
+		}
+		if rule, at := net.Check(n); rule != 0 {
+			t.Fatalf("%v breaks rule %d at %d", n, rule, at)
+		}
+		sizes[len(n.Nodes)]++
+		for _, x := range n.Nodes {
+			kinds[x.Kind]++
+		}
+		b, _ := fold.Fold(n)
+		if b.Kind != block.Web {
+			continue
+		}
+		linked++
+		if wrong, _, err := sound.Play(n, b); wrong != 0 || err != api.OK {
+			t.Fatalf("%v is not sound: %d, %v", n, wrong, err)
+		}
+		gates := map[int]int{}
+		for _, k := range b.Kids {
+			if k.Kind == block.Gate {
+				gates[n.Nodes[k.Node].Kind]++
+			}
+		}
+		if len(gates) == 2 {
+			mixed++
+		}
+	}
+	for size := 6; size <= api.MaxNodes; size++ {
+		if sizes[size] == 0 {
+			t.Errorf("no process of %d nodes", size)
+		}
+	}
+	for kind := api.Start; kind <= api.Catch; kind++ {
+		if kinds[kind] < 300 {
+			t.Errorf("kind %d: %d times", kind, kinds[kind])
+		}
+	}
+	if linked < 600 || linked > 1800 || mixed < 50 {
+		t.Errorf("%d can't be folded, of which %d have gates of both kinds", linked, mixed)
+	}
+}
+
 // Processes that are knit are right, without Events and rounds; some can be folded whole, some others are sound.
 func TestKnit(t *testing.T) {
 	r, again := rand.New(rand.NewSource(5)), rand.New(rand.NewSource(5))
