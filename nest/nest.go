@@ -25,6 +25,30 @@ func Same[T any](w Way[T], a, b T, alike func(a, b T) bool) bool {
 	return w.same(a, b, w.Levels, alike)
 }
 
+// Once shows a thing and all in it, in any order and however deep they lie, till it is told false; a thing of a list that lies in several others, or in itself,
+// is shown once. It tells whether it came through all of them. (No recursion: things may lie too deep for one.)
+func Once[T any](x T, kids func(T) []T, to func(T) bool) bool {
+	shown := map[*T]struct{}{}
+	lists := [][]T{{x}}
+	for len(lists) > 0 {
+		last := len(lists) - 1
+		list := lists[last]
+		lists = lists[:last]
+		for i := range list {
+			thing := &list[i]
+			if _, ok := shown[thing]; ok {
+				continue
+			}
+			shown[thing] = struct{}{}
+			if !to(*thing) {
+				return false
+			}
+			lists = append(lists, kids(*thing))
+		}
+	}
+	return true
+}
+
 // enter tells whether there is room for a thing that has so many levels left.
 func (w *Way[T]) enter(levels int) bool {
 	if levels <= 0 || w.Things <= 0 {

@@ -56,6 +56,46 @@ func TestSame(t *testing.T) {
 	}
 }
 
+// Each thing is shown once, wherever it lies, till it is enough.
+func TestOnce(t *testing.T) {
+	kids := func(x thing) []thing { return x.kids }
+	names := func(x thing, till int) ([]int, bool) {
+		var l []int
+		all := nest.Once(x, kids, func(x thing) bool {
+			l = append(l, x.name)
+			return x.name != till
+		})
+		slices.Sort(l)
+		return l, all
+	}
+	if l, all := names(some(), 0); !slices.Equal(l, []int{1, 2, 3, 4, 5}) || !all {
+		t.Errorf("%v, %v", l, all)
+	}
+	for till := 1; till <= 5; till++ {
+		if l, all := names(some(), till); !slices.Contains(l, till) || all {
+			t.Errorf("till %d: %v, %v", till, l, all)
+		}
+	}
+	round := []thing{{name: 1}, {name: 2}, {name: 3}}
+	round[0].kids, round[1].kids = round, round[1:]
+	if l, all := names(thing{4, round[:2]}, 0); !slices.Equal(l, []int{1, 2, 3, 4}) || !all {
+		t.Errorf("what lies in itself: %v, %v", l, all)
+	}
+	var deep, twice thing
+	for i := range 1000000 {
+		deep = thing{i, []thing{deep}}
+		if i < 70 {
+			twice = thing{i, []thing{twice, twice}}
+		}
+	}
+	if l, all := names(deep, -1); len(l) != 1000001 || !all {
+		t.Errorf("deep: %d, %v", len(l), all)
+	}
+	if l, all := names(twice, -1); len(l) != 2*70+1 || !all {
+		t.Errorf("twice the same: %d, %v", len(l), all)
+	}
+}
+
 // A walk comes to so many things, and to so many levels, and no further.
 func TestLimits(t *testing.T) {
 	for things := range 7 {

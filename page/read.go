@@ -23,28 +23,32 @@ type part struct {
 	kids int
 }
 
-// act is the activity of an element, which need not be a program; or ErrForm, if it is none's, ErrLong, if there are too many in it.
-// Elements may lie in themselves, so that no more of them are kept than may be.
+// act is the activity of an element, which need not be a program; or ErrForm, if it is none's, or one in it is; else ErrLong, if there are too many in it.
+// Elements may lie in themselves, so that no more of them are made activities than there may be: of all others it is only asked whether they are some's.
 func act(e tree.Elem) (bpel.Act, api.Errno) {
 	var parts []part
-	var right bool
-	way := nest.Way[tree.Elem]{Kids: actElems, Levels: nest.MostLevels, Things: nest.MostThings}
-	nest.Through(way, e, func(x tree.Elem) bool {
+	right := true
+	way := nest.Way[tree.Elem]{Kids: actElems, Levels: bpel.Most, Things: bpel.Most}
+	all := nest.Through(way, e, func(x tree.Elem) bool {
 		var a bpel.Act
 		a, right = single(x)
-		if len(parts) <= bpel.Most {
-			parts = append(parts, part{a, len(actElems(x))})
-		}
+		parts = append(parts, part{a, len(actElems(x))})
 		return right
 	})
-	if !right {
-		return bpel.Act{}, api.ErrForm
+	if all {
+		a, _ := assemble(parts)
+		return a, api.OK
 	}
-	if len(parts) > bpel.Most {
+	if right && nest.Once(e, actElems, isAct) {
 		return bpel.Act{}, api.ErrLong
 	}
-	a, _ := assemble(parts)
-	return a, api.OK
+	return bpel.Act{}, api.ErrForm
+}
+
+// isAct tells whether an element is an activity's, its kids aside.
+func isAct(e tree.Elem) bool {
+	_, ok := single(e)
+	return ok
 }
 
 // assemble is the activity with which parts begin, each ahead of its kids, and the parts behind it.

@@ -238,6 +238,58 @@ func spoil(a *bpel.Act) {
 	clear(a.Net.Flows[:cap(a.Net.Flows)])
 }
 
+// within is an element, so many flows around it, each of which has other kids ahead of it and behind it.
+func within(e tree.Elem, levels, others int) tree.Elem {
+	for range levels {
+		kids := slices.Repeat([]tree.Elem{{Name: "empty"}}, 2*others+1)
+		kids[others] = e
+		e = tree.Elem{Name: "flow", Kids: kids}
+	}
+	return e
+}
+
+// 17.2: an element that is none's is told wherever it lies; only if there is none, that there are too many.
+func TestWrongOneFarOff(t *testing.T) {
+	wrongs := []tree.Elem{{}, {Name: "y"}, {Name: "link"}, {Name: "empty", Text: " "}, {Name: "wait"}, {Name: "rules"}, {Name: "web", Kids: []tree.Elem{{Name: "link", Text: "x"}}}, {Name: "invoke", Kids: []tree.Elem{{Name: "y"}}}}
+	for _, levels := range []int{1, 23, 24, 95, 96, 97, 999, 1000, 1001, 3000, 20000} {
+		for _, others := range []int{0, 1, 40} {
+			if levels*others > 50000 {
+				continue
+			}
+			for _, e := range wrongs {
+				if a, err := page.Act(within(e, levels, others)); err != api.ErrForm || !reflect.DeepEqual(a, bpel.Act{}) {
+					t.Errorf("%v, %d deep, %d beside it: %v", e, levels, others, err)
+				}
+			}
+			want := api.ErrLong
+			if levels == 1 && others < 50 || levels == 23 && others == 1 {
+				want = api.OK
+			}
+			if others == 0 && levels < 24 {
+				want = api.ErrForm
+			}
+			if _, err := page.Act(within(tree.Elem{Name: "wait", Attrs: []mark.Attr{{Name: "node", Value: "1"}}}, levels, others)); err != want {
+				t.Errorf("a right one, %d deep, %d beside it: %v; want %v", levels, others, err, want)
+			}
+		}
+	}
+	for _, many := range []int{95, 96, 97, 100000} {
+		e := tree.Elem{Name: "flow", Kids: slices.Repeat([]tree.Elem{{Name: "empty"}}, many)}
+		e.Kids[many-1].Name = "link"
+		if _, err := page.Act(e); err != api.ErrForm {
+			t.Errorf("the last of %d: %v", many, err)
+		}
+	}
+}
+
+// twice is an element that has another one twice, which has another one twice, and so on: more than could be gone through one by one.
+func twice(last tree.Elem) tree.Elem {
+	for range 70 {
+		last = tree.Elem{Name: "flow", Kids: []tree.Elem{last, last}}
+	}
+	return last
+}
+
 // P3: calls end at anything.
 func TestEnds(t *testing.T) {
 	for name, want := range map[string]api.Errno{"flow": api.ErrLong, "empty": api.ErrLong, "web": api.ErrLong, "rules": api.ErrForm, "link": api.ErrForm, "": api.ErrForm} {
@@ -248,18 +300,15 @@ func TestEnds(t *testing.T) {
 		if a, err := page.Act(kids[0]); err != want || !reflect.DeepEqual(a, bpel.Act{}) {
 			t.Errorf("Act of %q in itself: %v", name, err)
 		}
-	}
-	deep := tree.Elem{Name: "y"}
-	for level := 2; level <= 100000; level++ {
-		deep = tree.Elem{Name: "flow", Kids: []tree.Elem{deep}}
-		want := api.ErrForm
-		if level > 1000 {
-			want = api.ErrLong
+		// The last of them is wrong, and is come to behind the others only.
+		kids[2].Text = "x"
+		if a, err := page.Act(kids[0]); err != api.ErrForm || !reflect.DeepEqual(a, bpel.Act{}) {
+			t.Errorf("Act of %q in itself, and a wrong one: %v", name, err)
 		}
-		if slices.Contains([]int{500, 1000, 1001, 100000}, level) {
-			if _, err := page.Act(deep); err != want {
-				t.Errorf("Act of a wrong one %d deep: %v; want %v", level, err, want)
-			}
+	}
+	for last, want := range map[string]api.Errno{"empty": api.ErrLong, "y": api.ErrForm} {
+		if _, err := page.Act(twice(tree.Elem{Name: last})); err != want {
+			t.Errorf("Act of %q in many: %v; want %v", last, err, want)
 		}
 	}
 	kids := make([]bpel.Act, 2)
