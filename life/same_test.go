@@ -56,11 +56,11 @@ func TestSameAsProcess(t *testing.T) {
 		plans[kind]++
 		game := moves(a)
 		first, _ := life.Start(a)
-		ours, ok := seen.Close(game, []life.State{first}, 300)
+		ours, full := seen.Close(game, []life.State{first}, 300)
 		theirs, err := trail.Begin(n)
 		var way []api.Label
 		for range 25 {
-			if !ok || err != api.OK || len(theirs) > 300 {
+			if full != api.OK || err != api.OK || len(theirs) > 300 {
 				break
 			}
 			got, want := seen.Labels(game, ours), trail.Labels(n, theirs)
@@ -77,7 +77,7 @@ func TestSameAsProcess(t *testing.T) {
 			}
 			x := own[r.Intn(len(own))]
 			way = append(way, x)
-			ours, ok = seen.After(game, ours, x, 300)
+			ours, full = seen.After(game, ours, x, 300)
 			theirs, err = trail.After(n, theirs, x)
 			switch x.Kind {
 			case api.Faulted:

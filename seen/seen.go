@@ -17,16 +17,26 @@ type Game[S comparable] struct {
 // Once is each state of a list once, in their order.
 func Once[S comparable](l []S) []S { return gather(l).states }
 
-// Close is the closed list; false, if it has more than so many states.
-func Close[S comparable](g Game[S], l []S, most int) ([]S, bool) {
+// Check is the first error that a list's states have.
+func Check[S comparable](l []S, check func(S) api.Errno) api.Errno {
+	for _, s := range Once(l) {
+		if err := check(s); err != api.OK {
+			return err
+		}
+	}
+	return api.OK
+}
+
+// Close is the closed list; ErrFull, if it has more than so many states.
+func Close[S comparable](g Game[S], l []S, most int) ([]S, api.Errno) {
 	f := gather(l)
 	for i := 0; i < len(f.states) && len(f.states) <= most; i++ {
 		f.add(leads(g, f.states[i], api.Label{}))
 	}
 	if len(f.states) > most {
-		return nil, false
+		return nil, api.ErrFull
 	}
-	return f.states, true
+	return f.states, api.OK
 }
 
 // Labels are all that can be seen next, each once, rising.
@@ -43,8 +53,8 @@ func Labels[S comparable](g Game[S], l []S) []api.Label {
 	return slices.Compact(labels)
 }
 
-// After is what is behind a label, closed; false, if it has more than so many states.
-func After[S comparable](g Game[S], l []S, x api.Label, most int) ([]S, bool) {
+// After is what is behind a label, closed; ErrFull, if it has more than so many states.
+func After[S comparable](g Game[S], l []S, x api.Label, most int) ([]S, api.Errno) {
 	f := gather[S](nil)
 	for _, s := range Once(l) {
 		f.add(leads(g, s, x))
@@ -52,24 +62,24 @@ func After[S comparable](g Game[S], l []S, x api.Label, most int) ([]S, bool) {
 	return Close(g, f.states, most)
 }
 
-// Accepts is how many labels, one behind the other from a state on, can be seen; false, if a cloud on the way has more than so many states.
-func Accepts[S comparable](g Game[S], start S, l []api.Label, most int) (int, bool) {
-	now, ok := Close(g, []S{start}, most)
-	if !ok {
-		return 0, false
+// Accepts is how many labels, one behind the other from a state on, can be seen; ErrFull, if a cloud on the way has more than so many states.
+func Accepts[S comparable](g Game[S], start S, l []api.Label, most int) (int, api.Errno) {
+	now, err := Close(g, []S{start}, most)
+	if err != api.OK {
+		return 0, err
 	}
 	for i, x := range l {
 		if x.Kind == api.Silent {
-			return i, true
+			return i, api.OK
 		}
-		if now, ok = After(g, now, x, most); !ok {
-			return 0, false
+		if now, err = After(g, now, x, most); err != api.OK {
+			return 0, err
 		}
 		if len(now) == 0 {
-			return i, true
+			return i, api.OK
 		}
 	}
-	return len(l), true
+	return len(l), api.OK
 }
 
 // Compare is below 0, if a label is ahead of another one; 0, if both are the same.

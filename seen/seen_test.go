@@ -3,6 +3,7 @@ package seen_test
 import (
 	"cmp"
 	"slices"
+	"strings"
 	"testing"
 
 	"treenail/api"
@@ -59,16 +60,37 @@ func TestOnce(t *testing.T) {
 	}
 }
 
+// The first error is told, and each state is asked once, up to it.
+func TestCheck(t *testing.T) {
+	for l, want := range map[string]string{"": "", "aba": "ab", "abcad": "abc", "cab": "c", "aadac": "ad", "ccd": "c"} {
+		asked := ""
+		err := seen.Check([]byte(l), func(s byte) api.Errno {
+			asked += string(s)
+			return map[byte]api.Errno{'c': api.ErrArg, 'd': api.ErrForm}[s]
+		})
+		wrong := api.OK
+		switch {
+		case strings.HasSuffix(want, "c"):
+			wrong = api.ErrArg
+		case strings.HasSuffix(want, "d"):
+			wrong = api.ErrForm
+		}
+		if asked != want || err != wrong {
+			t.Errorf("%s: %v, %s were asked", l, err, asked)
+		}
+	}
+}
+
 func TestClose(t *testing.T) {
 	asked := 0
 	for l, want := range map[string]string{"": "", "a": "adcfe", "c": "ce", "e": "e", "gfg": "gfadce", "ec": "ec", "b": "badcfe", "cc": "ce"} {
 		asked = 0
-		got, ok := seen.Close(game(&asked), []byte(l), len(want))
-		if string(got) != want || !ok || asked != len(want) {
-			t.Errorf("%s: %s, %v, %d times", l, got, ok, asked)
+		got, err := seen.Close(game(&asked), []byte(l), len(want))
+		if string(got) != want || err != api.OK || asked != len(want) {
+			t.Errorf("%s: %s, %v, %d times", l, got, err, asked)
 		}
-		if got, ok := seen.Close(game(&asked), []byte(l), len(want)-1); got != nil || ok {
-			t.Errorf("%s: %s, %v", l, got, ok)
+		if got, err := seen.Close(game(&asked), []byte(l), len(want)-1); got != nil || err != api.ErrFull {
+			t.Errorf("%s: %s, %v", l, got, err)
 		}
 	}
 }
@@ -92,11 +114,11 @@ func TestAfter(t *testing.T) {
 		{"a", did(1), "bfadce"}, {"da", did(1), "gbfadce"}, {"adad", did(1), "bfgadce"}, {"b", did(3), "badcfe"},
 		{"g", did(2), "g"}, {"gc", did(2), "gce"}, {"a", did(2), ""}, {"", did(1), ""}, {"e", did(1), ""},
 	} {
-		if got, ok := seen.After(game(&asked), []byte(x.l), x.label, len(x.want)); string(got) != x.want || !ok {
-			t.Errorf("%s, %v: %s, %v", x.l, x.label, got, ok)
+		if got, err := seen.After(game(&asked), []byte(x.l), x.label, len(x.want)); string(got) != x.want || err != api.OK {
+			t.Errorf("%s, %v: %s, %v", x.l, x.label, got, err)
 		}
-		if got, ok := seen.After(game(&asked), []byte(x.l), x.label, len(x.want)-1); got != nil || ok {
-			t.Errorf("%s, %v: %s, %v", x.l, x.label, got, ok)
+		if got, err := seen.After(game(&asked), []byte(x.l), x.label, len(x.want)-1); got != nil || err != api.ErrFull {
+			t.Errorf("%s, %v: %s, %v", x.l, x.label, got, err)
 		}
 	}
 }
@@ -109,21 +131,21 @@ func TestAccepts(t *testing.T) {
 		l     []api.Label
 		most  int
 		want  int
-		ok    bool
+		err   api.Errno
 	}{
-		{'a', nil, 5, 0, true},
-		{'a', nil, 4, 0, false},
-		{'a', []api.Label{did(2)}, 5, 1, true},
-		{'a', []api.Label{did(1)}, 5, 0, false},
-		{'a', []api.Label{did(1)}, 7, 1, true},
-		{'a', []api.Label{did(2), did(2), did(2), did(1), did(1)}, 5, 3, true},
-		{'a', []api.Label{did(1), did(3), did(1), did(2)}, 7, 4, true},
-		{'a', []api.Label{did(9), did(1)}, 5, 0, true},
-		{'a', []api.Label{{}, did(1)}, 5, 0, true},
-		{'a', []api.Label{did(2), {Node: 3}, did(1)}, 5, 1, true},
+		{'a', nil, 5, 0, api.OK},
+		{'a', nil, 4, 0, api.ErrFull},
+		{'a', []api.Label{did(2)}, 5, 1, api.OK},
+		{'a', []api.Label{did(1)}, 5, 0, api.ErrFull},
+		{'a', []api.Label{did(1)}, 7, 1, api.OK},
+		{'a', []api.Label{did(2), did(2), did(2), did(1), did(1)}, 5, 3, api.OK},
+		{'a', []api.Label{did(1), did(3), did(1), did(2)}, 7, 4, api.OK},
+		{'a', []api.Label{did(9), did(1)}, 5, 0, api.OK},
+		{'a', []api.Label{{}, did(1)}, 5, 0, api.OK},
+		{'a', []api.Label{did(2), {Node: 3}, did(1)}, 5, 1, api.OK},
 	} {
-		if got, ok := seen.Accepts(g, x.start, x.l, x.most); got != x.want || ok != x.ok {
-			t.Errorf("%d: %d, %v", i, got, ok)
+		if got, err := seen.Accepts(g, x.start, x.l, x.most); got != x.want || err != x.err {
+			t.Errorf("%d: %d, %v", i, got, err)
 		}
 	}
 }
